@@ -1,0 +1,1 @@
+"""Client policies for remote calls."""

@@ -1,0 +1,36 @@
+"""The document's examples, as far as their calls are served."""
+
+import unittest
+
+from helper import (
+    add_backend, advance, ask, attempt_info, call_info, complete, create_with, next_timer, run, start_call,
+)
+
+POLICY = [3, 100, 1000, 200, 0, 2, 1000, 50, 10, 100, 14]
+
+
+class Examples(unittest.TestCase):
+    def test_the_request_of_the_document(self):
+        lines = [
+            (create_with(1, 0, POLICY), [0]),
+            (add_backend(1), [0]),
+            (add_backend(1), [1]),
+            (start_call(1000, 1, 7), [0, 0]),
+            (complete(0, 14, 0), [0]),
+            (next_timer(), [75, 1, 0]),
+            (advance(100), [1, 100]),
+            (attempt_info(1), [0, 1, 2, 75, 925, 0, 0]),
+            (complete(1, 100, 0), [0]),
+            (call_info(0), [0, 1000, 2, 1, 1, 0, 0, 0]),
+            (complete(2, 14, 52), [0]),
+            (run(0), [1, 150]),
+            (run(0), [0, 150]),
+            (start_call(100, 0, 5), [1, 0]),
+            (complete(4, 2, 0), [3]),
+            (complete(4, 0, 0), [-16]),
+        ]
+        self.assertEqual(ask(*[line[0] for line in lines]), [line[1] for line in lines])
+
+
+if __name__ == "__main__":
+    unittest.main()
