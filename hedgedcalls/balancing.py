@@ -7,16 +7,23 @@ WEIGHTED = 1
 LEAST_OUTSTANDING = 2
 
 
+def is_ejected(client, backend):
+    return backend.ejected_until is not None and client.now < backend.ejected_until
+
+
 def is_available(client, backend):
-    return backend.active and backend.ejected_until <= client.now
+    return backend.active and not is_ejected(client, backend)
+
+
+def available_backends(client):
+    return [backend for backend in client.backends if is_available(client, backend)]
 
 
 def candidates(client, used):
     """The backends to choose from, in increasing order; used: the numbers of those the call has had."""
-    active = active_backends(client)
-    pool = [backend for backend in active if is_available(client, backend)]
+    pool = available_backends(client)
     if not pool:
-        pool = active
+        pool = active_backends(client)
     fresh = [backend for backend in pool if backend.number not in used]
     if fresh:
         return fresh
@@ -70,7 +77,7 @@ def note_failure(client, backend):
 
 def room_for_ejection(client):
     active = active_backends(client)
-    ejected = [backend for backend in active if not is_available(client, backend)]
+    ejected = [backend for backend in active if is_ejected(client, backend)]
     return len(ejected) < len(active) * client.policy.ejection_percent // 100
 
 

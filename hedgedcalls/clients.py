@@ -5,7 +5,11 @@ from hedgedcalls.operations import (
     add_backend, advance, cancel, complete, remove_backend, run, set_weight, start_call,
 )
 from hedgedcalls.policy import Policy, parameters_allowed
-from hedgedcalls.questions import attempt_info, call_info, next_timer
+from hedgedcalls.questions import (
+    tell_attempt, tell_available_backends, tell_backend, tell_backoff_bound, tell_budget, tell_call,
+    tell_call_attempts, tell_hash, tell_next_timer, tell_preview, tell_ranking, tell_running_attempts, tell_status,
+    tell_totals,
+)
 from hedgedcalls.refusals import no_client, outside_limits
 from hedgedcalls.state import Client
 
@@ -78,7 +82,7 @@ def answer_advance(client, numbers):
 
 
 def answer_next_timer(client, numbers):
-    return next_timer(client)
+    return tell_next_timer(client)
 
 
 def answer_run(client, numbers):
@@ -86,11 +90,55 @@ def answer_run(client, numbers):
 
 
 def answer_call_info(client, numbers):
-    return call_info(client, numbers[0])
+    return tell_call(client, numbers[0])
 
 
 def answer_attempt_info(client, numbers):
-    return attempt_info(client, numbers[0])
+    return tell_attempt(client, numbers[0])
+
+
+def answer_call_attempts(client, numbers):
+    return tell_call_attempts(client, numbers[0])
+
+
+def answer_backend_info(client, numbers):
+    return tell_backend(client, numbers[0])
+
+
+def answer_running_attempts(client, numbers):
+    return tell_running_attempts(client)
+
+
+def answer_preview_choice(client, numbers):
+    return tell_preview(client, numbers[0])
+
+
+def answer_ranking(client, numbers):
+    return tell_ranking(client, numbers[0])
+
+
+def answer_hash(client, numbers):
+    return tell_hash(numbers[0], numbers[1])
+
+
+def answer_available_backends(client, numbers):
+    return tell_available_backends(client)
+
+
+def answer_backoff_bound(client, numbers):
+    return tell_backoff_bound(client, numbers[0])
+
+
+def answer_budget(client, numbers):
+    return tell_budget(client)
+
+
+def answer_totals(client, numbers):
+    return tell_totals(client)
+
+
+def answer_status(client, numbers):
+    return tell_status(client)
 
 
 ANSWERS = {
@@ -105,4 +153,15 @@ ANSWERS = {
     9: answer_run,
     10: answer_call_info,
     11: answer_attempt_info,
+    12: answer_call_attempts,
+    13: answer_backend_info,
+    14: answer_running_attempts,
+    15: answer_preview_choice,
+    16: answer_ranking,
+    17: answer_hash,
+    18: answer_available_backends,
+    19: answer_backoff_bound,
+    20: answer_budget,
+    21: answer_totals,
+    22: answer_status,
 }

@@ -20,7 +20,7 @@ def start_attempt(client, call, counted):
         return
     backend = pick(client, pool, call.key)
     note_choice(client, pool, backend)
-    attempt = Attempt(call, backend, len(call.attempts) + 1, client.now)
+    attempt = Attempt(len(client.attempts), call, backend, len(call.attempts) + 1, client.now)
     backend.outstanding += 1
     client.attempts.append(attempt)
     call.attempts.append(attempt)

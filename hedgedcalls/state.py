@@ -8,6 +8,8 @@ CANCELLED_STATE = 2
 
 
 class Backend:
+    """A backend, active or removed; ejected_until is None as long as it was never ejected."""
+
     def __init__(self, number, weight):
         self.number = number
         self.weight = weight
@@ -16,7 +18,7 @@ class Backend:
         self.outstanding = 0
         self.failures = 0
         self.ejections = 0
-        self.ejected_until = 0
+        self.ejected_until = None
 
 
 class Call:
@@ -40,7 +42,8 @@ class Call:
 class Attempt:
     """One try of a call on a backend; its place counts from 1 within the call."""
 
-    def __init__(self, call, backend, place, started_at):
+    def __init__(self, number, call, backend, place, started_at):
+        self.number = number
         self.call = call
         self.backend = backend
         self.place = place

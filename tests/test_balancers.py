@@ -3,8 +3,8 @@
 import unittest
 
 from helper import (
-    add_backend, advance, ask, backends_of, cancel, complete, create, fnv_1a, hash_of, remove_backend, run,
-    set_weight, start_call,
+    KEYS, add_backend, advance, ask, backends_of, cancel, complete, create, fnv_1a, hash_of, ranked, remove_backend,
+    run, set_weight, start_call,
 )
 
 ROUND_ROBIN, WEIGHTED, LEAST_OUTSTANDING, HASHING = range(4)
@@ -124,19 +124,14 @@ class LeastOutstanding(unittest.TestCase):
 
 
 class Hashing(unittest.TestCase):
-    KEYS = (0, 1, 2, 7, 255, 256, 65535, 65536, 16777215, 16777216, 305419896, 2147483648, 4294967295)
-
-    def ranked(self, key, backends):
-        return sorted(backends, key=lambda backend: -hash_of(key, backend))
-
     def test_the_hash_of_these_tests(self):
         self.assertEqual(fnv_1a(b"foobar"), 0xBF9CF968)
         self.assertEqual(hash_of(0x626F6F66, ord("a")), fnv_1a(b"fooba"))
 
     def test_the_greatest_hash_for_the_key(self):
-        setup = [create(balancer=HASHING), *[add_backend()] * 8, *[start_call(9, 0, key) for key in self.KEYS]]
-        expected = [self.ranked(key, range(8))[0] for key in self.KEYS]
-        self.assertEqual(backends_of(setup, range(len(self.KEYS))), expected)
+        setup = [create(balancer=HASHING), *[add_backend()] * 8, *[start_call(9, 0, key) for key in KEYS]]
+        expected = [ranked(key, range(8))[0] for key in KEYS]
+        self.assertEqual(backends_of(setup, range(len(KEYS))), expected)
         self.assertGreater(len(set(expected)), 3)
 
     def test_the_same_key_goes_to_the_same_backend(self):
@@ -144,17 +139,17 @@ class Hashing(unittest.TestCase):
         self.assertEqual(len(set(backends_of(setup, range(3)))), 1)
 
     def test_hedged_attempts_go_down_the_ranking_and_begin_again(self):
-        for key in self.KEYS:
+        for key in KEYS:
             setup = [create(balancer=HASHING, max_attempts=5, hedge_delay=1), *[add_backend()] * 3,
                      start_call(100, 1, key), advance(4)]
-            ranked = self.ranked(key, range(3))
-            self.assertEqual(backends_of(setup, range(5)), ranked + [ranked[0]] * 2)
+            order = ranked(key, range(3))
+            self.assertEqual(backends_of(setup, range(5)), order + [order[0]] * 2)
 
     def test_a_removed_backend_is_not_chosen(self):
-        for key in self.KEYS:
-            ranked = self.ranked(key, range(4))
-            setup = [create(balancer=HASHING), *[add_backend()] * 4, remove_backend(ranked[0]), start_call(9, 0, key)]
-            self.assertEqual(backends_of(setup, [0]), ranked[1:2])
+        for key in KEYS:
+            order = ranked(key, range(4))
+            setup = [create(balancer=HASHING), *[add_backend()] * 4, remove_backend(order[0]), start_call(9, 0, key)]
+            self.assertEqual(backends_of(setup, [0]), order[1:2])
 
 
 class NoActiveBackend(unittest.TestCase):

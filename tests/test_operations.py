@@ -3,11 +3,9 @@
 import unittest
 
 from helper import (
-    MISSING, NOT_RUNNING, NOTHING, OUTSIDE, TOO_MANY, add_backend, advance, ask, attempt_info, call_info, cancel,
+    MISSING, MOST, NOT_RUNNING, NOTHING, OUTSIDE, TOO_MANY, add_backend, advance, ask, attempt_info, call_info, cancel,
     complete, create, last, next_timer, operation, remove_backend, run, set_weight, start_call,
 )
-
-MOST = 4294967295
 
 
 class AddBackend(unittest.TestCase):

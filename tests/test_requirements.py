@@ -1,14 +1,15 @@
 """The document's requirements 1 to 7, in chosen cases and along many random walks with written seeds."""
 
-import random
 import unittest
 
 from helper import (
-    add_backend, advance, ask, attempt_info, backends_of, call_info, cancel, complete, create, hash_of,
-    remove_backend, run, set_weight, start_call,
+    NOTHING, Sight, Walk, add_backend, advance, ask, attempt_info, available_backends, backends_of, budget,
+    call_attempts, call_info, cancel, complete, create, hash_of, preview_choice, ranked, ranking, remove_backend, run,
+    running_attempts, start_call,
 )
 
 AT_ONCE = 2
+START_CALL = 4
 RUNNING, FINISHED, CANCELLED = range(3)
 
 
@@ -55,10 +56,11 @@ class NumberOfAttempts(unittest.TestCase):
                          start_call(100000)]
                 calls += [complete(attempt, 100, AT_ONCE) for attempt in range(refused)]
                 calls += [advance(5), run(14, 14, 14, 14), advance(3000), run(*[14] * 30), advance(3000)]
-                told = ask(*calls, call_info(0), attempt_info(most), attempt_info(most + 1))
-                self.assertEqual(told[-3][2], most)
-                self.assertEqual(told[-2] == [-2], refused == 0)
-                self.assertEqual(told[-1], [-2])
+                told = ask(*calls, call_info(0), attempt_info(most), attempt_info(most + 1), call_attempts(0))
+                self.assertEqual(told[-4][2], most)
+                self.assertEqual(told[-3] == [-2], refused == 0)
+                self.assertEqual(told[-2], [-2])
+                self.assertEqual(told[-1][0], most + min(refused, 1))
 
 
 class Outstanding(unittest.TestCase):
@@ -96,8 +98,10 @@ class Outstanding(unittest.TestCase):
 
     def test_a_call_that_is_not_open_has_no_running_attempts(self):
         for end in (cancel(0), complete(1, 0), complete(1, 7), advance(1000)):
-            told = ask(create(hedge_delay=10), add_backend(), start_call(), advance(20), end, run())
-            self.assertEqual(told[-1][0], 0)
+            told = ask(create(hedge_delay=10), add_backend(), start_call(), advance(20), end, run(),
+                       running_attempts())
+            self.assertEqual(told[-2][0], 0)
+            self.assertEqual(told[-1], [0])
 
 
 class StableHashing(unittest.TestCase):
@@ -120,6 +124,27 @@ class StableHashing(unittest.TestCase):
                 else:
                     self.assertEqual(new, old)
 
+    def told(self, question, removed, keys):
+        """The answers to preview_choice or ranking for each key behind the removal of some backends."""
+        setup = [create(balancer=3), *[add_backend()] * 6, *[remove_backend(number) for number in removed]]
+        return ask(*setup, *[question(key) for key in keys])[len(setup):]
+
+    def test_removing_a_backend_changes_only_its_own_previews(self):
+        keys = [number * 2654435761 % 2 ** 32 for number in range(40)]
+        before = self.told(preview_choice, [], keys)
+        self.assertGreater(len({answer[0] for answer in before}), 3)
+        for removed in range(6):
+            for old, new in zip(before, self.told(preview_choice, [removed], keys)):
+                self.assertEqual(new != old, old == [removed])
+
+    def test_removing_a_backend_only_takes_it_out_of_the_ranking(self):
+        keys = [number * 2654435761 % 2 ** 32 for number in range(40)]
+        before = self.told(ranking, [], keys)
+        for removed in ([0], [5], [2, 3], [5, 0, 1]):
+            for old, new in zip(before, self.told(ranking, removed, keys)):
+                left = [backend for backend in old[1:] if backend not in removed]
+                self.assertEqual(new, [len(left), *left])
+
 
 class Tokens(unittest.TestCase):
     """Requirement 6."""
@@ -131,8 +156,14 @@ class Tokens(unittest.TestCase):
                 for attempt in range(successes):
                     calls += [start_call(), complete(attempt, 0)]
                 # With two tokens at the most, a single failure always leaves too few.
-                told = ask(*calls, start_call(), complete(successes, 14))
-                self.assertEqual(told[-1], [15])
+                told = ask(*calls, budget(), start_call(), complete(successes, 14), budget())
+                self.assertEqual(told[-4:], [[2000, 1], [successes, 0], [15], [1000, 0]])
+
+    def test_a_refund_goes_only_up_to_the_maximum(self):
+        for refund, tokens in ((999, [2999, 3000]), (1000, [3000, 3000]), (700, [2700, 3000])):
+            told = ask(create(max_tokens=3, refund=refund, max_attempts=1), add_backend(), start_call(),
+                       complete(0, 14), start_call(), complete(1, 0), budget(), start_call(), complete(2, 0), budget())
+            self.assertEqual([told[6][0], told[9][0]], tokens)
 
 
 class EjectedBackends(unittest.TestCase):
@@ -152,90 +183,57 @@ class EjectedBackends(unittest.TestCase):
                         if backends_of(setup, [attempts - 1]) == [bad]:
                             break
                     setup.append(complete(attempts - 1, 14))
+                self.assertEqual(ask(*setup, available_backends(), preview_choice(3))[-2:], [[1, good], [good]])
                 setup += [start_call(100, 1, 3), advance(4)]
                 self.assertEqual(backends_of(setup, range(attempts, attempts + 5)), [good] * 5)
 
 
-class Walk:
-    """A list of calls that grows at random; what it has led to is asked again behind each step."""
-
-    def __init__(self, seed):
-        self.dice = random.Random(seed)
-        self.policy = {
-            "max_attempts": self.dice.randint(1, 5),
-            "initial_backoff": self.dice.choice((0, 5, 50)),
-            "max_backoff": self.dice.choice((0, 20, 1000)),
-            "multiplier": self.dice.choice((100, 150, 200)),
-            "hedge_delay": self.dice.choice((0, 0, 3, 20)),
-            "threshold": self.dice.randint(0, 2),
-            "ejection_time": self.dice.choice((1, 10, 50)),
-            "ejection_percent": self.dice.choice((0, 50, 100)),
-            "max_tokens": self.dice.choice((0, 3, 10)),
-            "refund": self.dice.choice((0, 100, 1000)),
-        }
-        retryable = self.dice.choice(((), (14,), (2, 14), range(1, 17)))
-        self.calls = [create(self.dice.randint(0, 9), self.dice.randint(0, 3), retryable=retryable, **self.policy)]
-        self.idempotent = []
-
-    def step(self):
-        dice = self.dice
-        kind = dice.choice(("add", "remove", "weight", "start", "start", "start", "complete", "complete", "complete",
-                            "complete", "cancel", "advance", "advance", "run"))
-        status = dice.choice((0, 2, 5, 14, 14, 100, 100))
-        if kind == "start":
-            self.idempotent.append(dice.randint(0, 1))
-        made = {
-            "add": lambda: add_backend(dice.randint(1, 5)),
-            "remove": lambda: remove_backend(dice.randint(0, 3)),
-            "weight": lambda: set_weight(dice.randint(0, 3), dice.randint(1, 5)),
-            "start": lambda: start_call(dice.choice((10, 50, 300)), self.idempotent[-1], dice.randint(0, 99)),
-            "complete": lambda: complete(dice.randint(0, 12), status, dice.choice((0, 0, 1, 2, 7, 60))),
-            "cancel": lambda: cancel(dice.randint(0, 5)),
-            "advance": lambda: advance(dice.choice((0, 1, 3, 10, 40))),
-            "run": lambda: run(*[dice.choice((0, 2, 14, 14, 100)) for number in range(dice.randint(0, 4))]),
-        }
-        self.calls.append(made[kind]())
-
-    def asked(self, question):
-        """The answers to a question about number 0, 1 and so on, as long as they exist."""
-        told = []
-        while True:
-            count = 60 - len(self.calls)
-            more = ask(*self.calls, *[question(len(told) + number) for number in range(count)])[-count:]
-            told += [answer for answer in more if answer != [-2]]
-            if more[-1] == [-2]:
-                return told
-
-
 class RandomWalks(unittest.TestCase):
+    KEY = 305419896
+
     def test_what_holds_behind_every_step(self):
-        seen = {"transparent": 0, "retries": 0, "hedged": 0, "late": 0, "closed": 0}
+        seen = {"transparent": 0, "retries": 0, "hedged": 0, "late": 0, "closed": 0, "ejected": 0, "none": 0}
         for seed in range(120):
             walk = Walk(seed)
             walk.calls += [add_backend(2), add_backend(1)]
+            before = Sight(walk, self.KEY)
             for number in range(35):
                 walk.step()
                 with self.subTest(seed=seed, step=number):
-                    self.check(walk, seen)
+                    sight = Sight(walk, self.KEY)
+                    self.check_calls(walk, sight)
+                    self.check_attempts(sight)
+                    self.check_backends(walk, sight)
+                    self.check_start(walk, before, sight)
+                    self.note(sight, seen)
+                before = sight
         self.assertTrue(all(seen.values()), seen)
 
-    def check(self, walk, seen):
-        running_in_all, now = ask(*walk.calls, run())[-1]
-        calls = walk.asked(call_info)
-        attempts = walk.asked(attempt_info)
-        self.assertEqual(len(calls), len(walk.idempotent))
-        self.assertEqual(running_in_all, sum(answer[5] == RUNNING for answer in attempts))
-        for number, info in enumerate(calls):
-            own = [answer for answer in attempts if answer[0] == number]
+    def note(self, sight, seen):
+        calls, ok, failed, attempts, retries, hedges, transparent = sight.totals
+        seen["transparent"] += transparent
+        seen["retries"] += retries
+        seen["hedged"] += hedges
+        seen["late"] += sum(info[0] == 5 for info in sight.calls)
+        seen["closed"] += ok + failed
+        seen["ejected"] += sum(info[6] for info in sight.backends)
+        seen["none"] += sight.available == [0] and sight.ranking != [0]
+
+    def check_calls(self, walk, sight):
+        self.assertEqual(len(sight.calls), len(walk.idempotent))
+        for number, info in enumerate(sight.calls):
+            own = [sight.attempts[attempt] for attempt in sight.own_attempts[number][1:]]
             self.assertEqual([answer[2] for answer in own], list(range(1, len(own) + 1)))
-            self.check_call(info, own, walk, now)
-            seen["transparent"] += info[4]
-            seen["retries"] += info[3]
-            seen["hedged"] += len(own) > 1 + info[3] + info[4]
-            seen["late"] += info[0] == 5
-            seen["closed"] += info[0] > 0
+            self.check_call(info, own, walk, sight.now)
             if not walk.idempotent[number]:
                 self.assertTrue(all(answer[5:] == [FINISHED, 100] for answer in own[:-1]))
+        ends = [info[0] for info in sight.calls if info[0] > 0]
+        calls, ok, failed, attempts, retries, hedges, transparent = sight.totals
+        self.assertEqual([calls, ok, ok + failed], [len(sight.calls), ends.count(1), len(ends)])
+        self.assertEqual(retries, sum(info[3] for info in sight.calls))
+        self.assertEqual(transparent, sum(info[4] for info in sight.calls))
+        self.assertEqual(attempts, len(sight.attempts))
+        self.assertLessEqual(attempts, calls + retries + hedges + transparent)
 
     def check_call(self, info, own, walk, now):
         status, deadline, counted, retries, transparent, retry_at, hedge_at, finished_at = info
@@ -250,6 +248,41 @@ class RandomWalks(unittest.TestCase):
         else:
             self.assertEqual(running > 0, retry_at == 0)
             self.assertEqual(finished_at, 0)
+
+    def check_attempts(self, sight):
+        for number, told in enumerate(sight.own_attempts):
+            own = [attempt for attempt, info in enumerate(sight.attempts) if info[0] == number]
+            self.assertEqual(told, [len(own), *own])
+        running = [attempt for attempt, info in enumerate(sight.attempts) if info[5] == RUNNING]
+        self.assertEqual(sight.running, [len(running), *running])
+        self.assertEqual(sight.status[5], len(running))
+        on_each = [sight.attempts[attempt][1] for attempt in running]
+        for number, info in enumerate(sight.backends):
+            self.assertEqual(info[2], on_each.count(number))
+
+    def check_backends(self, walk, sight):
+        active = [number for number, info in enumerate(sight.backends) if info[0]]
+        available = [number for number in active if not sight.backends[number][6]]
+        self.assertEqual(sight.status[3:5], [len(sight.backends), len(active)])
+        self.assertEqual(sight.available, [len(available), *available])
+        self.assertEqual(sight.ranking, [len(active), *ranked(self.KEY, active)])
+        self.assertEqual(sight.preview == NOTHING, not active)
+        if active:
+            self.assertIn(sight.preview[0], available or active)
+        for active, weight, outstanding, failures, ejections, until, ejected, current in sight.backends:
+            self.assertEqual(ejected == 1, sight.now < until - 1)
+            self.assertEqual(ejections > 0, until > 0)
+        most = walk.policy["max_tokens"] * 1000
+        tokens, allowed = sight.budget
+        self.assertTrue(0 <= tokens <= most)
+        self.assertEqual(allowed == 1, most == 0 or 2 * tokens > most)
+
+    def check_start(self, walk, before, sight):
+        """No time passes with start_call, so what was available ahead of it is what it chooses among."""
+        started = sight.attempts[len(before.attempts):]
+        if walk.calls[-1][0] == START_CALL and before.ranking != [0]:
+            self.assertEqual(len(started), 1)
+            self.assertIn(started[0][1], before.available[1:] or before.ranking[1:])
 
 
 if __name__ == "__main__":
